@@ -1,0 +1,1 @@
+"""Marks that go with a text."""
