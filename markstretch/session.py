@@ -24,14 +24,15 @@ NOTHING_TO_BE = -7
 class Stretch:
     """A stretch of the text; turn tells which of all makings and settings its last one was."""
 
-    def __init__(self, numbers, turn):
-        self.begin = numbers[0]
-        self.end = numbers[1]
-        self.lean_begin = numbers[2]
-        self.lean_end = numbers[3]
-        self.vanishes = numbers[4]
-        self.rank = numbers[5]
-        self.value = numbers[6]
+    def __init__(self, number, told, turn):
+        self.number = number
+        self.begin = told[0]
+        self.end = told[1]
+        self.lean_begin = told[2]
+        self.lean_end = told[3]
+        self.vanishes = told[4]
+        self.rank = told[5]
+        self.value = told[6]
         self.vanished = False
         self.turn = turn
 
@@ -91,32 +92,42 @@ class Session:
         self.start_anew(list(content))
         return [len(content)]
 
-    def mark(self, numbers):
+    def mark(self, told):
         """Make a stretch of the numbers that mark is told, in their order."""
-        stretch = Stretch(numbers, self.turns)
+        stretch = Stretch(self.made, told, self.turns)
         if not self.has_room(stretch.vanishes, stretch.begin, stretch.end):
             return [NOT_FITTING]
         if stretch.rank > HIGHEST_RANK or stretch.value > HIGHEST_VALUE:
             return [NOT_FITTING]
         if self.made == MOST_STRETCHES:
             return [TOO_MANY_STRETCHES]
-        number = self.made
-        self.stretches[number] = stretch
+        self.stretches[stretch.number] = stretch
         self.made += 1
         self.turns += 1
-        return [number]
+        return [stretch.number]
+
+    def lies_within(self, begin, end):
+        """Whether the one place isn't above the other, and both are places of the text."""
+        return begin <= end and end <= len(self.content)
 
     def has_room(self, vanishes, begin, end):
         """Whether a stretch may go from the one place to the other."""
-        return begin <= end and end <= len(self.content) and not is_gone(vanishes, begin, end)
+        return self.lies_within(begin, end) and not is_gone(vanishes, begin, end)
+
+    def refusal_of(self, number):
+        """Why a stretch can't be asked for by its number; None if it can."""
+        if number not in self.stretches:
+            return NO_SUCH_STRETCH
+        if self.stretches[number].vanished:
+            return HAS_VANISHED
+        return None
 
     def set_to(self, number, begin, end):
         """Let a stretch go from the one place to the other."""
-        if number not in self.stretches:
-            return [NO_SUCH_STRETCH]
+        refusal = self.refusal_of(number)
+        if refusal is not None:
+            return [refusal]
         stretch = self.stretches[number]
-        if stretch.vanished:
-            return [HAS_VANISHED]
         if not self.has_room(stretch.vanishes, begin, end):
             return [NOT_FITTING]
         stretch.begin = begin

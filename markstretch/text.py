@@ -1,5 +1,11 @@
 """The calls on one text, read from one list of whole numbers and answered in another."""
 
+from markstretch.questions import bytes_shown
+from markstretch.questions import covering
+from markstretch.questions import ends_of
+from markstretch.questions import every_one
+from markstretch.questions import first_behind
+from markstretch.questions import runs_between
 from markstretch.session import Session
 
 BEGINS = 0
@@ -8,18 +14,20 @@ SET = 2
 DROP = 3
 CHANGE = 4
 UNDO = 5
+REDO = 6
+SHOWS = 7
+STRETCH = 8
+OVER = 9
+RUNS = 10
+NEXT = 11
 
 # By a call's number, how many whole numbers it has ahead of its row.
-NUMBERS = (0, 7, 3, 1, 0, 0, 0)
+NUMBERS = (0, 7, 3, 1, 0, 0, 0, 0, 1, 1, 2, 2, 0)
 
 
 def answers(calls):
     """The answers of the calls on a new text, each with how many numbers it has before it."""
-    return answers_of(Session(), calls)
-
-
-def answers_of(session, calls):
-    """The answers of the calls on this text, each with how many numbers it has before it."""
+    session = Session()
     result = []
     at = 0
     while at < len(calls):
@@ -55,4 +63,21 @@ def answer_of(session, kind, numbers):
         return session.change(numbers)
     if kind == UNDO:
         return session.undo()
-    return session.redo()
+    if kind == REDO:
+        return session.redo()
+    return seen_of(session, kind, numbers)
+
+
+def seen_of(session, kind, numbers):
+    """The answer of one call that only looks."""
+    if kind == SHOWS:
+        return bytes_shown(session)
+    if kind == STRETCH:
+        return ends_of(session, numbers[0])
+    if kind == OVER:
+        return covering(session, numbers[0])
+    if kind == RUNS:
+        return runs_between(session, numbers[0], numbers[1])
+    if kind == NEXT:
+        return first_behind(session, numbers[0], numbers[1])
+    return every_one(session)

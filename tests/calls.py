@@ -1,10 +1,11 @@
 """Calls written as lists of numbers, and ways to ask them."""
 
-from markstretch.session import Session
-from markstretch.text import answers, answers_of
+from markstretch.text import answers
 
 UNDO = [5]
 REDO = [6]
+SHOWS = [7]
+ALL = [12]
 HUGE = 4294967295
 
 
@@ -32,6 +33,22 @@ def change(*changes):
     return [4, len(row)] + row
 
 
+def stretch(number):
+    return [8, number]
+
+
+def over(place):
+    return [9, place]
+
+
+def runs(begin, end):
+    return [10, begin, end]
+
+
+def next_of(place, value):
+    return [11, place, value]
+
+
 def flat(calls):
     return [number for call in calls for number in call]
 
@@ -50,37 +67,58 @@ def split(numbers):
 
 
 def ask(*calls):
-    return split(answers(flat(calls)))
+    """The answers of a line of calls, a list each; the line is one that may be handed in."""
+    told = flat(calls)
+    if not 1 <= len(calls) <= 60 or len(told) > 30000:
+        raise ValueError("no such line is handed in")
+    answered = split(answers(told))
+    if len(answered) != len(calls):
+        raise ValueError("not an answer for each call")
+    return answered
 
 
 def last(*calls):
     return ask(*calls)[-1]
 
 
+class Behind:
+    """A text as it is when the calls are answered, seen through one more call at a time."""
+
+    def __init__(self, calls):
+        self.calls = calls
+
+    def seen(self, *looks):
+        return last(*self.calls, *looks)
+
+    @property
+    def content(self):
+        count, *content = self.seen(SHOWS)
+        if count != len(content):
+            raise ValueError("not as many bytes as told")
+        return content
+
+
 def behind(*calls):
-    """The text as it is when the calls are answered."""
-    session = Session()
-    answers_of(session, flat(calls))
-    return session
+    return Behind(calls)
 
 
-def ends(session, number):
+def ends(view, number):
     """Where a stretch goes from and to; None if it has vanished."""
-    stretch = session.stretches[number]
-    if stretch.vanished:
+    answered = view.seen(stretch(number))
+    if answered == [-3]:
         return None
-    return (stretch.begin, stretch.end)
+    begin, end = answered
+    return (begin, end)
 
 
-def picture(session):
-    """All of a text that can be told apart, but not how often it was set."""
-    return (
-        session.content,
-        {number: ends(session, number) for number in session.stretches},
-        session.made,
-        len(session.steps),
-        len(session.taken_back),
-    )
+def picture(view):
+    """All of a text that can be told apart by asking, but not what a later set would do to what is taken back."""
+    size = len(view.content)
+    looks = [SHOWS, ALL, UNDO, REDO, mark(0, 0), runs(0, size)]
+    looks += [stretch(number) for number in range(41)]
+    looks += [over(place) for place in range(size)]
+    seen = [view.seen(look) for look in looks]
+    return seen + [view.seen(step, look) for step in (UNDO, REDO) for look in (SHOWS, ALL)]
 
 
 def probe(calls, size):

@@ -3,7 +3,7 @@
 import unittest
 
 from tests.calls import (
-    HUGE, REDO, UNDO, ask, begins, behind, change, ends, last, mark, picture, probe, set_to,
+    HUGE, REDO, UNDO, ask, begins, behind, change, ends, last, mark, over, picture, probe, set_to,
 )
 
 TEN = begins(list(range(10)))
@@ -227,13 +227,11 @@ class BytesThatStay(unittest.TestCase):
         vanishes = kind // 4
         if vanishes and begin == end:
             return
-        session = behind(
+        calls = (
             begins(list(range(size))),
             mark(begin, end, kind % 2, kind // 2 % 2, vanishes),
             change((place, out, [100] * come)),
         )
-        now = ends(session, 0)
-        for at, byte in enumerate(session.content):
+        for at, byte in enumerate(behind(*calls).content):
             if byte < 100:
-                covered = now is not None and now[0] <= at < now[1]
-                self.assertEqual(covered, begin <= byte < end)
+                self.assertEqual(last(*calls, over(at)), [1, 0] if begin <= byte < end else [0])

@@ -65,6 +65,12 @@ def names_bound_in(tree):
     return bound
 
 
+def names_at_the_top_of(tree):
+    """The functions, classes and values that a file defines itself."""
+    defined = {node.name for node in tree.body if isinstance(node, (ast.FunctionDef, ast.ClassDef))}
+    return defined | {node.targets[0].id for node in tree.body if isinstance(node, ast.Assign)}
+
+
 class Form(unittest.TestCase):
     def test_files(self):
         names = [path.name for path in PACKAGE.iterdir() if path.name != "__pycache__"]
@@ -105,6 +111,28 @@ class Form(unittest.TestCase):
                 self.assertNotIsInstance(node, ast.Import, name)
                 if isinstance(node, ast.ImportFrom):
                     self.assertRegex(node.module, r"\Amarkstretch\.[a-z]+\Z", name)
+
+    def test_imports_are_from_the_file_that_defines_the_name_and_never_round(self):
+        drawn = {}
+        for name, tree in trees().items():
+            drawn[name] = set()
+            for node in [node for node in ast.walk(tree) if isinstance(node, ast.ImportFrom)]:
+                source = node.module.split(".")[1] + ".py"
+                drawn[name].add(source)
+                for one in node.names:
+                    self.assertIn(one.name, names_at_the_top_of(trees()[source]), name)
+        while drawn:
+            free = [name for name in drawn if not drawn[name] & set(drawn)]
+            self.assertNotEqual(free, [], "files draw from one another")
+            drawn.pop(free[0])
+
+    def test_no_parameter_or_local_is_called_like_an_import_or_a_class(self):
+        for name, tree in trees().items():
+            taken = {one.name for node in tree.body if isinstance(node, ast.ImportFrom) for one in node.names}
+            taken |= {node.name for node in tree.body if isinstance(node, ast.ClassDef)}
+            for node in ast.walk(tree):
+                if isinstance(node, ast.FunctionDef):
+                    self.assertEqual(names_bound_in(node) & taken, set(), (name, node.name))
 
     def test_names(self):
         for name, tree in trees().items():

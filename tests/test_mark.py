@@ -2,7 +2,9 @@
 
 import unittest
 
-from tests.calls import HUGE, ask, begins, behind, change, drop, ends, last, mark, picture, set_to
+from tests.calls import (
+    HUGE, ask, begins, behind, change, drop, ends, last, mark, over, picture, runs, set_to, stretch,
+)
 
 TEXT = begins([1, 2, 3, 4])
 
@@ -12,10 +14,14 @@ class MarkAnswers(unittest.TestCase):
         self.assertEqual(ask(TEXT, mark(0, 1), mark(0, 1), mark(2, 4))[1:], [[0], [1], [2]])
 
     def test_keeps_what_it_is_told(self):
-        stretch = behind(TEXT, mark(1, 3, 0, 1, 1, 9, 99)).stretches[0]
-        kept = (stretch.begin, stretch.end, stretch.lean_begin, stretch.lean_end)
-        self.assertEqual(kept, (1, 3, 0, 1))
-        self.assertEqual((stretch.vanishes, stretch.rank, stretch.value), (1, 9, 99))
+        typed = change((1, 0, [7]), (3, 0, [8]))
+        for leans, place in (((0, 0), [1, 4]), ((0, 1), [1, 5]), ((1, 0), [2, 4]), ((1, 1), [2, 5])):
+            calls = (TEXT, mark(1, 3, *leans, 1, 9, 99))
+            self.assertEqual(last(*calls, stretch(0)), [1, 3])
+            self.assertEqual(last(*calls, typed, stretch(0)), place)
+            self.assertEqual(last(*calls, change((1, 2, [])), stretch(0)), [-3])
+            self.assertEqual(last(*calls, runs(1, 3)), [1, 1, 3, 100])
+            self.assertEqual(last(*calls, mark(0, 4, rank=8), mark(0, 4, rank=9), over(1)), [3, 2, 0, 1])
 
     def test_a_number_is_not_given_twice(self):
         self.assertEqual(ask(TEXT, mark(0, 1), drop(0), mark(0, 1))[1:], [[0], [0], [1]])

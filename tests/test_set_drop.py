@@ -2,7 +2,7 @@
 
 import unittest
 
-from tests.calls import HUGE, UNDO, ask, begins, behind, change, drop, ends, last, mark, picture, probe, set_to
+from tests.calls import ALL, HUGE, UNDO, ask, begins, behind, change, drop, ends, last, mark, picture, probe, set_to
 
 TEXT = begins([1, 2, 3, 4])
 MARKED = (TEXT, mark(1, 3), mark(1, 3, vanishes=1))
@@ -89,9 +89,8 @@ class Drop(unittest.TestCase):
         self.assertEqual(last(*MARKED, drop(0), drop(0)), [-2])
 
     def test_the_others_stay(self):
-        session = behind(*MARKED, drop(0))
-        self.assertEqual(sorted(session.stretches), [1])
-        self.assertEqual(ends(session, 1), (1, 3))
+        self.assertEqual(last(*MARKED, drop(0), ALL), [1, 1, 1, 3])
+        self.assertEqual(ends(behind(*MARKED, drop(0)), 1), (1, 3))
 
     def test_one_that_has_vanished(self):
         self.assertEqual(last(*GONE, drop(1)), [0])
